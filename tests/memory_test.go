@@ -122,3 +122,158 @@ func TestTextsOfFramesAreNew(t *testing.T) {
 		t.Errorf("%q, %v, %v", s, g, ok)
 	}
 }
+
+// sharesRoom tells whether two lists have memory in common, their spare room too.
+func sharesRoom[T any](a, b []T) bool {
+	if cap(a) == 0 || cap(b) == 0 {
+		return false
+	}
+	size := unsafe.Sizeof(*new(T))
+	first, other := uintptr(unsafe.Pointer(unsafe.SliceData(a))), uintptr(unsafe.Pointer(unsafe.SliceData(b)))
+	return first < other+uintptr(cap(b))*size && other < first+uintptr(cap(a))*size
+}
+
+// apart wants no two of these lists to share memory.
+func apart[T any](t *testing.T, name string, lists ...[]T) {
+	t.Helper()
+	for i := range lists {
+		for j := range i {
+			if sharesRoom(lists[i], lists[j]) {
+				t.Errorf("%s: the lists %d and %d share memory", name, j, i)
+			}
+		}
+	}
+}
+
+// roomyTable is a table with spare room behind it, full or not.
+func roomyTable(n int) []impl.Entry {
+	return slices.Concat(tableOf(n), []impl.Entry{{Mac: 77, Port: 78, At: 79}, {Mac: 80}})[:n]
+}
+
+func TestTablesLeaveArgumentsAlone(t *testing.T) {
+	for n := range impl.MaxTable + 1 {
+		l := roomyTable(n)
+		before := slices.Clone(l[:n+2])
+		for _, mac := range []int64{1, 2, 15, 20, 21} {
+			for _, now := range []int64{0, 30, 48, 1000, -1} {
+				learned, _ := impl.Learned(l, mac, 3, now)
+				aged := impl.Aged(l, now)
+				impl.PortOf(l, mac, now)
+				impl.TableOk(l)
+				apart(t, "tables", l, learned, aged)
+				for _, answer := range [][]impl.Entry{learned, aged} {
+					for i := range answer[:cap(answer)] {
+						answer[:cap(answer)][i] = impl.Entry{Mac: 99}
+					}
+				}
+				if !slices.Equal(l[:n+2], before) {
+					t.Fatalf("%d, %d: left %v of %v", mac, now, l[:n+2], before)
+				}
+			}
+		}
+	}
+}
+
+func TestSameTablesSameAnswers(t *testing.T) {
+	roomy, tight := roomyTable(impl.MaxTable), slices.Clip(tableOf(impl.MaxTable))
+	first, _ := impl.Learned(tight, 2, 1, 40)
+	aged := impl.Aged(tight, 45)
+	for range 100 {
+		if l, ok := impl.Learned(roomy, 2, 1, 40); !ok || !slices.Equal(l, first) {
+			t.Fatalf("Learned: %v and %v", l, first)
+		}
+		if l := impl.Aged(roomy, 45); len(l) == 0 || !slices.Equal(l, aged) {
+			t.Fatalf("Aged: %v and %v", l, aged)
+		}
+	}
+}
+
+// roomyRound lies in one piece of memory, each list with the next one in the spare room behind it.
+func roomyRound(turn int64) (impl.Round, []int64, [][]int64) {
+	room := []int64{3, 10, 1, 4, 0, 2, 5, 1, 4, 5, 77, 78}
+	sizes := [][]int64{room[6:8], room[8:8], room[8:10], {79}, {80}}
+	return impl.Round{Quanta: room[:3], Deficit: room[3:6], Turn: turn, Sizes: sizes[:3]}, room, sizes
+}
+
+func spoilRound(r impl.Round) {
+	for _, l := range append([][]int64{r.Quanta, r.Deficit}, r.Sizes...) {
+		spoilList(l)
+	}
+	for i := range r.Sizes[:cap(r.Sizes)] {
+		r.Sizes[:cap(r.Sizes)][i] = []int64{99}
+	}
+}
+
+func TestRoundsLeaveArgumentsAlone(t *testing.T) {
+	for turn := range int64(3) {
+		r, room, sizes := roomyRound(turn)
+		if !impl.RoundOk(r) {
+			t.Fatalf("not right: %v", r)
+		}
+		before, roomBefore, sizesBefore := cloneRound(r), slices.Clone(room), cloneRound(impl.Round{Sizes: sizes})
+		check := func(name string, answer impl.Round, other []int64) {
+			t.Helper()
+			lists := append([][]int64{room, other, answer.Quanta, answer.Deficit}, answer.Sizes...)
+			apart(t, name, lists...)
+			apart(t, name, sizes, answer.Sizes)
+			spoilRound(answer)
+			spoilList(other)
+			if !sameRound(r, before) || !slices.Equal(room, roomBefore) || !sameRound(impl.Round{Sizes: sizes}, sizesBefore) {
+				t.Fatalf("%s left %v, %v, %v of %v", name, r, room, sizes, before)
+			}
+		}
+		for class := range int64(4) {
+			for _, size := range []int64{1, 5, 6} {
+				n, _ := impl.Waits(r, class, size)
+				check("Waits", n, nil)
+			}
+		}
+		for n := range int64(7) {
+			x, l := impl.PickedAll(r, n)
+			check("PickedAll", x, l)
+		}
+		n, _, _ := impl.Picked(r)
+		check("Picked", n, nil)
+		n, ok := impl.RoundNew(room[:3])
+		if !ok {
+			t.Error("RoundNew is false")
+		}
+		check("RoundNew", n, nil)
+		impl.RoundNew(room)
+		impl.PickedAll(r, 201)
+		check("refused", impl.Round{}, nil)
+	}
+}
+
+func TestPickedOfNothingIsNew(t *testing.T) {
+	room := []int64{2, 4, 0, 0, 77}
+	r := impl.Round{Quanta: room[:2], Deficit: room[2:4], Turn: 1, Sizes: [][]int64{room[4:4], room[4:4]}}
+	n, class, size := impl.Picked(r)
+	x, l := impl.PickedAll(r, 5)
+	if class != -1 || size != 0 || len(l) != 0 || !sameRound(n, r) || !sameRound(x, r) {
+		t.Errorf("%v, %d, %d; %v, %v", n, class, size, x, l)
+	}
+	for _, answer := range []impl.Round{n, x} {
+		apart(t, "nothing waits", append([][]int64{room, answer.Quanta, answer.Deficit}, answer.Sizes...)...)
+		apart(t, "nothing waits", r.Sizes, answer.Sizes)
+	}
+}
+
+func TestSameRoundsSameAnswers(t *testing.T) {
+	for turn := range int64(3) {
+		r, _, _ := roomyRound(turn)
+		tight := cloneRound(r)
+		for n := range int64(7) {
+			a, l := impl.PickedAll(r, n)
+			b, m := impl.PickedAll(tight, n)
+			if !sameRound(a, b) || !slices.Equal(l, m) {
+				t.Errorf("PickedAll: %v, %v and %v, %v", a, l, b, m)
+			}
+		}
+		a, ok := impl.Waits(r, 1, 2)
+		b, fine := impl.Waits(tight, 1, 2)
+		if !ok || !fine || !sameRound(a, b) {
+			t.Errorf("Waits: %v and %v", a, b)
+		}
+	}
+}
