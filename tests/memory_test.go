@@ -277,3 +277,99 @@ func TestSameRoundsSameAnswers(t *testing.T) {
 		}
 	}
 }
+
+// roomyCounts are counts with spare room behind their lists, and that room.
+func roomyCounts() (impl.Counts, []int64, []bool) {
+	used := []int64{5, 1, 0, 19, 77, 78}
+	paused := []bool{false, true, false, true, true, false}
+	return impl.Counts{Used: used[:3], Lossy: 6, Paused: paused[:3]}, used, paused
+}
+
+// spoilCounts turns each flag into the other one, so that it is seen wherever it is shared.
+func spoilCounts(n impl.Counts) {
+	spoilList(n.Used)
+	for i := range n.Paused[:cap(n.Paused)] {
+		n.Paused[:cap(n.Paused)][i] = !n.Paused[:cap(n.Paused)][i]
+	}
+}
+
+func TestBuffersLeaveArgumentsAlone(t *testing.T) {
+	c := buffer()
+	n, used, paused := roomyCounts()
+	if !impl.CountsOk(c, n) {
+		t.Fatalf("not right: %v", n)
+	}
+	before, usedBefore, pausedBefore := cloneCounts(n), slices.Clone(used), slices.Clone(paused)
+	check := func(name string, answer impl.Counts, told []int64) {
+		t.Helper()
+		apart(t, name, used, told, answer.Used)
+		apart(t, name, paused, answer.Paused)
+		spoilCounts(answer)
+		spoilList(told)
+		if !sameCounts(n, before) || !slices.Equal(used, usedBefore) || !slices.Equal(paused, pausedBefore) {
+			t.Fatalf("%s left %v, %v, %v of %v", name, n, used, paused, before)
+		}
+	}
+	for port := int64(-1); port <= 3; port++ {
+		for prio := int64(-1); prio <= impl.Lossless+1; prio++ {
+			for cells := range int64(impl.MaxCells + 2) {
+				m, _ := impl.Admitted(c, n, port, prio, cells)
+				check("Admitted", m, nil)
+				m, _ = impl.Released(c, n, port, prio, cells)
+				check("Released", m, nil)
+			}
+		}
+	}
+	m, told := impl.Signals(c, n)
+	if !slices.Equal(told, []int64{1, 2}) {
+		t.Errorf("told %v", told)
+	}
+	check("Signals", m, told)
+	quiet := impl.Counts{Used: used[:3], Paused: paused[3:6]}
+	m, told = impl.Signals(c, quiet)
+	check("Signals of other flags", m, told)
+	first, _ := impl.CountsNew(c)
+	second, _ := impl.CountsNew(c)
+	apart(t, "CountsNew", first.Used, second.Used)
+	apart(t, "CountsNew", first.Paused, second.Paused)
+	impl.Signals(c, impl.Counts{Used: used, Paused: paused})
+	impl.CountsOk(c, impl.Counts{Used: used[:2], Paused: paused[:3]})
+	check("refused", impl.Counts{}, nil)
+}
+
+// TestSignalsOfNothingToldIsNew has flags that are as they must be: even then the answer is no argument.
+func TestSignalsOfNothingToldIsNew(t *testing.T) {
+	used, paused := []int64{4, 2, 1, 77}, []bool{true, true, false, true}
+	n := impl.Counts{Used: used[:3], Paused: paused[:3]}
+	m, told := impl.Signals(buffer(), n)
+	if !sameCounts(m, n) || len(told) != 0 {
+		t.Errorf("%v, %v", m, told)
+	}
+	apart(t, "nothing told", used, m.Used, told)
+	apart(t, "nothing told", paused, m.Paused)
+}
+
+func TestSameCountsSameAnswers(t *testing.T) {
+	c := buffer()
+	roomy, _, _ := roomyCounts()
+	tight := impl.Counts{Used: slices.Clip(slices.Clone(roomy.Used)), Lossy: roomy.Lossy, Paused: slices.Clip(slices.Clone(roomy.Paused))}
+	for range 3 {
+		a, l := impl.Signals(c, roomy)
+		b, m := impl.Signals(c, tight)
+		if len(l) == 0 || !sameCounts(a, b) || !slices.Equal(l, m) {
+			t.Errorf("Signals: %v, %v and %v, %v", a, l, b, m)
+		}
+		for prio := range int64(impl.Lossless + 1) {
+			a, ok := impl.Admitted(c, roomy, 0, prio, 4)
+			b, fine := impl.Admitted(c, tight, 0, prio, 4)
+			if !ok || !fine || !sameCounts(a, b) {
+				t.Errorf("Admitted: %v and %v", a, b)
+			}
+			a, ok = impl.Released(c, roomy, 0, prio, 4)
+			b, fine = impl.Released(c, tight, 0, prio, 4)
+			if !ok || !fine || !sameCounts(a, b) {
+				t.Errorf("Released: %v and %v", a, b)
+			}
+		}
+	}
+}
