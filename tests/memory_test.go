@@ -373,3 +373,254 @@ func TestSameCountsSameAnswers(t *testing.T) {
 		}
 	}
 }
+
+func roomy[T any](l []T, spare ...T) []T {
+	return slices.Concat(l, spare)[:len(l)]
+}
+
+func wholeOf[T any](l []T) []T {
+	return slices.Clone(l[:cap(l)])
+}
+
+func wholeLists(l [][]int64) [][]int64 {
+	n := wholeOf(l)
+	for i := range n {
+		n[i] = wholeOf(n[i])
+	}
+	return n
+}
+
+// roomySwitch is a right switch with spare room behind each of its lists.
+func roomySwitch() impl.Switch {
+	s := busySwitch()
+	for _, l := range listsIn(&s) {
+		*l = roomy(*l, 77, 78)
+	}
+	for i := range s.Lanes {
+		l := &s.Lanes[i]
+		l.Queues = roomy(l.Queues, []int64{79}, []int64{80})
+		l.Round.Sizes = roomy(l.Round.Sizes, []int64{81}, []int64{82})
+	}
+	for i := range s.Packets {
+		s.Packets[i].Frame.Body = strings.Clone(s.Packets[i].Frame.Body)
+	}
+	s.Table = roomy(s.Table, impl.Entry{Mac: 83, Port: 84, At: 85}, impl.Entry{Mac: 86})
+	s.Counts.Paused = roomy(s.Counts.Paused, true, false)
+	s.Packets = roomy(s.Packets, impl.Packet{Id: 87}, impl.Packet{Refs: 88})
+	s.Lanes = roomy(s.Lanes, impl.Lane{Stop: true, Strict: []int64{89}}, impl.Lane{})
+	return s
+}
+
+// wholeSwitch looks at all the lists of a switch with the spare room behind them.
+func wholeSwitch(s impl.Switch) impl.Switch {
+	n := s
+	n.Table, n.Packets, n.Lanes = wholeOf(s.Table), wholeOf(s.Packets), wholeOf(s.Lanes)
+	n.Counts.Used, n.Counts.Paused = wholeOf(s.Counts.Used), wholeOf(s.Counts.Paused)
+	for i, l := range n.Lanes {
+		r := &n.Lanes[i].Round
+		n.Lanes[i].Strict, n.Lanes[i].Queues = wholeOf(l.Strict), wholeLists(l.Queues)
+		r.Quanta, r.Deficit, r.Sizes = wholeOf(r.Quanta), wholeOf(r.Deficit), wholeLists(r.Sizes)
+	}
+	return n
+}
+
+// spoilSwitch writes over all that an answer has, its spare room too.
+func spoilSwitch(s impl.Switch) {
+	spoilCounts(s.Counts)
+	for i := range s.Lanes[:cap(s.Lanes)] {
+		l := &s.Lanes[:cap(s.Lanes)][i]
+		spoilList(l.Strict)
+		spoilRound(impl.Round{Sizes: l.Queues})
+		spoilRound(l.Round)
+		*l = impl.Lane{Strict: []int64{99}}
+	}
+	for i := range s.Packets[:cap(s.Packets)] {
+		s.Packets[:cap(s.Packets)][i] = impl.Packet{Id: 99}
+	}
+	for i := range s.Table[:cap(s.Table)] {
+		s.Table[:cap(s.Table)][i] = impl.Entry{Mac: 99}
+	}
+}
+
+// apartSwitches wants no list of these to share memory with another one.
+func apartSwitches(t *testing.T, name string, switches ...impl.Switch) {
+	t.Helper()
+	var numbers [][]int64
+	var queues [][][]int64
+	var flags [][]bool
+	var tables [][]impl.Entry
+	var packets [][]impl.Packet
+	var lanes [][]impl.Lane
+	for _, s := range switches {
+		for _, l := range listsIn(&s) {
+			numbers = append(numbers, *l)
+		}
+		for _, l := range s.Lanes {
+			queues = append(queues, l.Queues, l.Round.Sizes)
+		}
+		flags, tables, packets, lanes = append(flags, s.Counts.Paused), append(tables, s.Table), append(packets, s.Packets), append(lanes, s.Lanes)
+	}
+	apart(t, name, numbers...)
+	apart(t, name, queues...)
+	apart(t, name, flags...)
+	apart(t, name, tables...)
+	apart(t, name, packets...)
+	apart(t, name, lanes...)
+}
+
+// apartTexts wants no body of the answers to lie in one of the arguments, nor in another one of the answers.
+func apartTexts(t *testing.T, name string, arguments, answers []string) {
+	t.Helper()
+	for i, text := range answers {
+		for _, other := range slices.Concat(arguments, answers[:i]) {
+			if sharesBytes(text, other) {
+				t.Errorf("%s: %q lies in %q", name, text, other)
+			}
+		}
+	}
+}
+
+func bodiesOf(s impl.Switch, frames ...impl.Frame) []string {
+	var bodies []string
+	for _, p := range s.Packets {
+		bodies = append(bodies, p.Frame.Body)
+	}
+	for _, f := range frames {
+		bodies = append(bodies, f.Body)
+	}
+	return bodies
+}
+
+// switchKeeper has an argument that must stay as it was, and looks at what comes of it.
+type switchKeeper struct {
+	s, before impl.Switch
+}
+
+func (k switchKeeper) check(t *testing.T, name string, answer impl.Switch, in impl.Frame, out []impl.Frame) {
+	t.Helper()
+	apartSwitches(t, name, k.s, answer)
+	apartTexts(t, name, bodiesOf(k.s, in), bodiesOf(answer, out...))
+	spoilSwitch(answer)
+	for i := range out[:cap(out)] {
+		out[:cap(out)][i] = impl.Frame{Body: "spoilt"}
+	}
+	if !sameSwitch(wholeSwitch(k.s), k.before) {
+		t.Fatalf("%s left %+v of %+v", name, wholeSwitch(k.s), k.before)
+	}
+}
+
+func (k switchKeeper) arrive(t *testing.T) map[int64]int {
+	t.Helper()
+	codes := map[int64]int{}
+	for port := int64(-1); port <= 3; port++ {
+		frames := []impl.Frame{pauseFrame, resumeFrame, {Body: strings.Clone("none")}}
+		for _, dst := range []int64{1, 2, 3, 7, 20, impl.All} {
+			for prio := range int64(impl.Lossless + 1) {
+				frames = append(frames, data(dst, 2, prio, strings.Clone("some text")), data(dst, 9, prio, strings.Clone(filler(40))))
+			}
+		}
+		for _, f := range frames {
+			n, code := impl.Arrived(k.s, port, f)
+			codes[code]++
+			k.check(t, "Arrived", n, f, nil)
+		}
+	}
+	return codes
+}
+
+func (k switchKeeper) send(t *testing.T) int {
+	t.Helper()
+	count := 0
+	for port := int64(-1); port <= 3; port++ {
+		n, out, _ := impl.Sent(k.s, port)
+		count += len(out)
+		k.check(t, "Sent", n, impl.Frame{}, out)
+	}
+	n, _ := impl.Ticked(k.s)
+	k.check(t, "Ticked", n, impl.Frame{}, nil)
+	impl.SwitchOk(k.s)
+	k.check(t, "SwitchOk", impl.Switch{}, impl.Frame{}, nil)
+	return count
+}
+
+func TestSwitchesLeaveArgumentsAlone(t *testing.T) {
+	codes, sent := map[int64]int{}, 0
+	for _, change := range []func(*impl.Switch){
+		func(s *impl.Switch) {},
+		func(s *impl.Switch) { s.Next = impl.MaxTime },
+		func(s *impl.Switch) { s.Lanes[1].Stop, s.Lanes[2].Stop = false, true },
+		func(s *impl.Switch) { s.Counts.Paused[0], s.Config.Xon, s.Config.Xoff = true, 6, 7 },
+		func(s *impl.Switch) { s.Packets[0].Refs++ },
+		func(s *impl.Switch) { s.Lanes[2].Strict = s.Lanes[2].Strict[:1] },
+		func(s *impl.Switch) { s.Lanes = s.Lanes[:4] },
+	} {
+		s := roomySwitch()
+		change(&s)
+		k := switchKeeper{s: s, before: wholeSwitch(s)}
+		for code, count := range k.arrive(t) {
+			codes[code] += count
+		}
+		sent += k.send(t)
+	}
+	if len(codes) != 5 || sent < 12 {
+		t.Errorf("codes %v, %d sent", codes, sent)
+	}
+}
+
+// TestSwitchesInOnePiece has lists that lie in one another's memory: those of the answers lie apart all the same.
+func TestSwitchesInOnePiece(t *testing.T) {
+	s := switchOf(buffer(), held{3, 0, data(impl.All, 1, 0, strings.Clone("a")), []int64{1, 2}}, held{4, 0, data(impl.All, 1, 0, strings.Clone("b")), []int64{0, 1, 2}})
+	s.Lanes[1] = s.Lanes[2]
+	rightSwitch(t, s)
+	k := switchKeeper{s: s, before: wholeSwitch(s)}
+	for port := range int64(3) {
+		n, code := impl.Arrived(s, port, data(impl.All, 5, 0, "c"))
+		m, out, ok := impl.Sent(s, port)
+		ticked, fine := impl.Ticked(s)
+		if code != impl.SwDone || !ok || len(out) != 1 || !fine {
+			t.Errorf("%d, %v, %v, %v", code, out, ok, fine)
+		}
+		apartSwitches(t, "one piece", n, m, ticked)
+		for _, answer := range []impl.Switch{n, m, ticked} {
+			spoilSwitch(answer)
+		}
+		if !sameSwitch(wholeSwitch(s), k.before) {
+			t.Fatalf("left %+v of %+v", s, k.before)
+		}
+	}
+}
+
+func TestSwitchNewIsNew(t *testing.T) {
+	a, _ := impl.SwitchNew(buffer())
+	b, _ := impl.SwitchNew(buffer())
+	apartSwitches(t, "SwitchNew", a, b)
+	spoilSwitch(a)
+	if !sameSwitch(b, switchOf(buffer())) {
+		t.Errorf("%+v", b)
+	}
+}
+
+func TestSameSwitchesSameAnswers(t *testing.T) {
+	spacious, tight := roomySwitch(), busySwitch()
+	for range 3 {
+		for port := range int64(3) {
+			for _, f := range []impl.Frame{pauseFrame, data(2, 7, 1, "x"), data(impl.All, 9, impl.Lossless, "y")} {
+				a, code := impl.Arrived(spacious, port, f)
+				b, other := impl.Arrived(tight, port, f)
+				if code != other || !sameSwitch(a, b) {
+					t.Errorf("Arrived: %+v, %d and %+v, %d", a, code, b, other)
+				}
+			}
+			a, l, ok := impl.Sent(spacious, port)
+			b, m, fine := impl.Sent(tight, port)
+			if !ok || !fine || !slices.Equal(l, m) || !sameSwitch(a, b) {
+				t.Errorf("Sent: %+v, %v and %+v, %v", a, l, b, m)
+			}
+		}
+		a, ok := impl.Ticked(spacious)
+		b, fine := impl.Ticked(tight)
+		if !ok || !fine || !sameSwitch(a, b) {
+			t.Errorf("Ticked: %+v and %+v", a, b)
+		}
+	}
+}
